@@ -2,6 +2,7 @@ package tree
 
 import (
 	"veilwork/api"
+	"veilwork/shape"
 	"veilwork/token"
 )
 
@@ -97,39 +98,17 @@ func functionFine(d api.TreeDecl) bool {
 	return len(d.Params) == 0 && len(d.Body) == 0 && noExpr(d.Result)
 }
 
-// shape is what a command has.
-type shape struct{ name, other, expr, args, then, otherwise bool }
-
-// shapeOf a kind of command, and whether there is such a kind.
-func shapeOf(kind int) (shape, bool) {
-	switch kind {
-	case api.StmtSet, api.StmtReveal, api.StmtTrust:
-		return shape{name: true, expr: true}, true
-	case api.StmtCall:
-		return shape{name: true, other: true, args: true}, true
-	case api.StmtGet:
-		return shape{name: true, other: true}, true
-	case api.StmtPut:
-		return shape{other: true, expr: true}, true
-	case api.StmtIf:
-		return shape{expr: true, then: true, otherwise: true}, true
-	case api.StmtWhile:
-		return shape{expr: true, then: true}, true
-	}
-	return shape{}, false
-}
-
 func stmtFine(s api.TreeStmt) bool {
-	has, ok := shapeOf(s.Kind)
-	if !ok || !nameFine(s.Name, has.name) || !nameFine(s.Other, has.other) {
+	has, ok := shape.OfStmt(s.Kind)
+	if !ok || !nameFine(s.Name, has.Var) || !nameFine(s.Other, has.Other) {
 		return false
 	}
-	if has.expr && !exprFine(s.Expr) || !has.expr && !noExpr(s.Expr) {
+	if has.Expr && !exprFine(s.Expr) || !has.Expr && !noExpr(s.Expr) {
 		return false
 	}
-	return listFine(s.Args, has.args, exprFine) &&
-		listFine(s.Then, has.then, stmtFine) &&
-		listFine(s.Else, has.otherwise, stmtFine)
+	return listFine(s.Args, has.Args, exprFine) &&
+		listFine(s.Then, has.Then, stmtFine) &&
+		listFine(s.Else, has.Else, stmtFine)
 }
 
 func exprFine(e api.TreeExpr) bool {
