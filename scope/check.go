@@ -5,6 +5,7 @@ import (
 
 	"veilwork/actors"
 	"veilwork/api"
+	"veilwork/expr"
 	"veilwork/label"
 	"veilwork/shape"
 )
@@ -117,36 +118,4 @@ func (c checker) others(kind, funcs int) int {
 	return len(c.Outs)
 }
 
-func (c checker) expr(e api.Expr) {
-	countParts(e, 0)
-	c.part(e)
-}
-
-// countParts: as countStmts, of an expression.
-func countParts(e api.Expr, many int) int {
-	many++
-	must(many <= api.MaxExpr, api.ErrMany)
-	for _, a := range e.Args {
-		many = countParts(a, many)
-	}
-	return many
-}
-
-// part of an expression, and those in it.
-func (c checker) part(e api.Expr) {
-	must(e.Kind >= api.ExprNumber && e.Kind <= api.ExprSame, api.ErrKind)
-	switch e.Kind {
-	case api.ExprNumber:
-		must(len(e.Args) == 0, api.ErrForm)
-		must(e.N >= -api.MaxNumber && e.N <= api.MaxNumber, api.ErrRange)
-	case api.ExprName:
-		must(len(e.Args) == 0, api.ErrForm)
-		must(isOneOf(e.N, len(c.Vars)), api.ErrNone)
-	default:
-		must(len(e.Args) == 2, api.ErrForm)
-		must(e.N == 0, api.ErrRange)
-	}
-	for _, a := range e.Args {
-		c.part(a)
-	}
-}
+func (c checker) expr(e api.Expr) { pass(expr.Check(e, len(c.Vars))) }

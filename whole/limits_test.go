@@ -1,0 +1,106 @@
+package whole
+
+import (
+	"reflect"
+	"slices"
+	"testing"
+
+	"veilwork/api"
+	"veilwork/infer"
+	"veilwork/run"
+)
+
+// greatest program: as many of all things as there may be.
+func greatest() api.Program {
+	number := api.Expr{Kind: api.ExprNumber, N: 1}
+	deepest := []api.Stmt{{Kind: api.StmtPut, Other: api.MaxChannels - 1, Expr: longest()}}
+	for range api.MaxDeep - 1 {
+		deepest = []api.Stmt{{Kind: api.StmtIf, Expr: number, Then: deepest}}
+	}
+	names := []int{0, 1, 2, 3, 4, 5}
+	policies := slices.Repeat([]api.Policy{{Owner: api.MaxActors - 1, Names: names[:api.MaxNames]}}, api.MaxPolicies)
+	l := api.Label{Read: policies, Write: policies}
+	call := api.Stmt{Kind: api.StmtCall, Var: 4, Other: api.MaxFuncs - 1, Args: slices.Repeat([]api.Expr{longest()}, api.MaxParams)}
+	get := api.Stmt{Kind: api.StmtGet, Var: api.MaxVars - 1, Other: api.MaxChannels - 1}
+	p := api.Program{
+		Actors: api.Actors{Many: api.MaxActors, Grants: slices.Repeat([]api.Grant{{Who: 5, For: 4}}, api.MaxGrants)},
+		Speak:  names[:api.MaxActors],
+		Ins:    slices.Repeat([]api.Label{l}, api.MaxChannels),
+		Outs:   slices.Repeat([]api.Label{l}, api.MaxChannels),
+		Vars:   slices.Repeat([]api.Var{{Known: true, Label: l}, {}}, api.MaxVars/2),
+		Funcs:  slices.Repeat([]api.Func{{Params: []int{12, 13, 14, 15}, Result: longest()}}, api.MaxFuncs),
+		Main:   append(deepest, get, call),
+	}
+	sets := api.Stmt{Kind: api.StmtSet, Var: 3, Expr: longest()}
+	p.Main = append(p.Main, slices.Repeat([]api.Stmt{sets}, api.MaxStmts-api.MaxDeep-2)...)
+	return p
+}
+
+// longest expression.
+func longest() api.Expr {
+	e := api.Expr{Kind: api.ExprName, N: api.MaxVars - 1}
+	for range api.MaxExpr / 2 {
+		e = api.Expr{Kind: api.ExprAdd, Args: []api.Expr{e, {Kind: api.ExprNumber, N: api.MaxNumber}}}
+	}
+	return e
+}
+
+// G2, H1 to H3: programs at all limits.
+func TestGreatest(t *testing.T) {
+	p := greatest()
+	ins := slices.Repeat([][]int{slices.Repeat([]int{api.Most}, api.MaxInput)}, api.MaxChannels)
+	x, e := run.Run(p, ins, api.MaxFuel)
+	if want := machineRun(p, ins, api.MaxFuel); e != api.OK || !alike(x, want) || x.Steps != api.MaxStmts {
+		t.Errorf("G2: %v (%d), want %v", x, e, want)
+	}
+	l, e := infer.Infer(p)
+	if want := makeGraph(p).least(bottom(p)); e != api.OK || !alike(l, want) {
+		t.Errorf("H3: %v (%d), want %v", l, e, want)
+	}
+	if fits, e := infer.Fits(p, l); !fits || e != api.OK {
+		t.Errorf("H4: %v (%d)", fits, e)
+	}
+	if x, e := infer.Of(p, l, longest()); e != api.OK || !alike(x, l.Vars[api.MaxVars-1]) {
+		t.Errorf("H1: %v (%d)", x, e)
+	}
+}
+
+// more: a list with its last element once more.
+func more[T any](l []T) []T { return append(slices.Clone(l), l[len(l)-1]) }
+
+// G2, H1 to H3: programs one past a limit.
+func TestPastLimits(t *testing.T) {
+	for i, change := range []func(p *api.Program){
+		func(p *api.Program) { p.Actors.Grants = more(p.Actors.Grants) },
+		func(p *api.Program) { p.Speak = more(p.Speak) },
+		func(p *api.Program) { p.Ins = more(p.Ins) },
+		func(p *api.Program) { p.Outs = more(p.Outs) },
+		func(p *api.Program) { p.Vars = more(p.Vars) },
+		func(p *api.Program) { p.Funcs = more(p.Funcs) },
+		func(p *api.Program) { p.Main = more(p.Main) },
+		func(p *api.Program) { p.Ins[4].Read = more(p.Ins[4].Read) },
+		func(p *api.Program) { p.Outs[4].Write = more(p.Outs[4].Write) },
+		func(p *api.Program) { p.Vars[2].Label.Read[3].Names = more(p.Vars[2].Label.Read[3].Names) },
+		func(p *api.Program) { p.Funcs[4].Params = []int{1, 2, 3, 4, 5} },
+		func(p *api.Program) {
+			p.Main[0].Then = []api.Stmt{{Kind: api.StmtIf, Expr: p.Main[0].Expr, Then: p.Main[0].Then}}
+			p.Main = p.Main[:10]
+		},
+		func(p *api.Program) {
+			p.Main[9].Expr = api.Expr{Kind: api.ExprAdd, Args: []api.Expr{longest(), {Kind: api.ExprNumber}}}
+		},
+	} {
+		p := greatest()
+		change(&p)
+		l := bottom(p)
+		for name, call := range calls() {
+			if name == "Eval" {
+				continue
+			}
+			x, e := call(given{p, make([][]int, len(p.Ins)), 1, l, longest(), nil})
+			if e != api.ErrMany || !reflect.ValueOf(x).IsZero() {
+				t.Errorf("P1: %s of a program past limit %d: %v (%d), want error %d", name, i, x, e, api.ErrMany)
+			}
+		}
+	}
+}
