@@ -7,7 +7,9 @@ import (
 
 	"veilwork/api"
 	"veilwork/infer"
+	"veilwork/judge"
 	"veilwork/run"
+	"veilwork/view"
 )
 
 // greatest program: as many of all things as there may be.
@@ -68,7 +70,33 @@ func TestGreatest(t *testing.T) {
 // more: a list with its last element once more.
 func more[T any](l []T) []T { return append(slices.Clone(l), l[len(l)-1]) }
 
-// G2, H1 to H3: programs one past a limit.
+// I1, J1: programs at all limits.
+func TestGreatestJudged(t *testing.T) {
+	p := greatest()
+	l, e := judge.Faults(p)
+	if want := makeTrial(p).faults; e != api.OK || !slices.Equal(l, want) || len(want) > 0 {
+		t.Errorf("I1: %v (%d), want %v", l, e, want)
+	}
+	// Nobody of those who may have written what is put may have written the channel any more.
+	p.Outs[api.MaxChannels-1].Write = []api.Policy{{Owner: 0}}
+	p.Vars[api.MaxVars-1].Known = true
+	l, e = judge.Faults(p)
+	if want := makeTrial(p).faults; e != api.OK || !slices.Equal(l, want) || len(want) == 0 {
+		t.Errorf("I1: %v (%d), want %v", l, e, want)
+	}
+	ins := slices.Repeat([][]int{slices.Repeat([]int{api.Most}, api.MaxInput)}, api.MaxChannels)
+	events := slices.Repeat([]api.Event{{Kind: api.EventTrust, Which: api.MaxVars - 1}, {Kind: api.EventPut, Which: api.MaxChannels - 1}}, api.MaxFuel/2)
+	for who := range api.MaxActors {
+		if x, e := view.Inputs(p, who, false, ins); e != api.OK || !alike(x, ins) {
+			t.Errorf("J1: %d sees %v (%d)", who, x, e)
+		}
+		if x, e := view.Events(p, who, false, events); e != api.OK || !slices.Equal(x, events) {
+			t.Errorf("J1: %d sees %v (%d)", who, x, e)
+		}
+	}
+}
+
+// G2, H1 to H3, I1, I2, J1: programs one past a limit.
 func TestPastLimits(t *testing.T) {
 	for i, change := range []func(p *api.Program){
 		func(p *api.Program) { p.Actors.Grants = more(p.Actors.Grants) },
@@ -94,10 +122,10 @@ func TestPastLimits(t *testing.T) {
 		change(&p)
 		l := bottom(p)
 		for name, call := range calls() {
-			if name == "Eval" {
-				continue
+			if name == "Eval" || name == "Apart" {
+				continue // they take no program
 			}
-			x, e := call(given{p, make([][]int, len(p.Ins)), 1, l, longest(), nil})
+			x, e := call(given{Program: p, Ins: make([][]int, len(p.Ins)), Fuel: 1, Levels: l, Expr: longest()})
 			if e != api.ErrMany || !reflect.ValueOf(x).IsZero() {
 				t.Errorf("P1: %s of a program past limit %d: %v (%d), want error %d", name, i, x, e, api.ErrMany)
 			}

@@ -159,6 +159,23 @@ func makeLevels(r *rand.Rand, p api.Program) api.Levels {
 	return api.Levels{Vars: list(len(p.Vars)), Funcs: list(len(p.Funcs))}
 }
 
+// makeEvents of a program, whether its commands could have them or not.
+func makeEvents(r *rand.Rand, p api.Program) []api.Event {
+	var l []api.Event
+	for range r.Intn(8) {
+		x := api.Event{Kind: api.EventPut + r.Intn(3), At: r.Intn(10), Value: makeNumber(r)}
+		if x.Kind == api.EventPut && len(p.Outs) == 0 {
+			x.Kind = api.EventReveal
+		}
+		x.Which = r.Intn(len(p.Vars))
+		if x.Kind == api.EventPut {
+			x.Which = r.Intn(len(p.Outs))
+		}
+		l = append(l, x)
+	}
+	return l
+}
+
 // makeFuel: any, often little.
 func makeFuel(r *rand.Rand) int {
 	if r.Intn(2) == 0 {

@@ -11,8 +11,10 @@ import (
 
 	"veilwork/api"
 	"veilwork/infer"
+	"veilwork/judge"
 	"veilwork/run"
 	"veilwork/scope"
+	"veilwork/view"
 )
 
 // given: all that a call may be handed.
@@ -23,6 +25,10 @@ type given struct {
 	Levels  api.Levels
 	Expr    api.Expr
 	Vars    []int
+	Who     int
+	Touch   bool
+	Events  []api.Event
+	Others  []api.Event
 }
 
 // calls: each answers what it was told, and an error.
@@ -48,10 +54,29 @@ func calls() map[string]func(g given) (any, api.Errno) {
 			ok, e := infer.Fits(g.Program, g.Levels)
 			return ok, e
 		},
+		"Faults": func(g given) (any, api.Errno) {
+			l, e := judge.Faults(g.Program)
+			return l, e
+		},
+		"Fine": func(g given) (any, api.Errno) {
+			ok, e := judge.Fine(g.Program)
+			return ok, e
+		},
+		"Inputs": func(g given) (any, api.Errno) {
+			l, e := view.Inputs(g.Program, g.Who, g.Touch, g.Ins)
+			return l, e
+		},
+		"Events": func(g given) (any, api.Errno) {
+			l, e := view.Events(g.Program, g.Who, g.Touch, g.Events)
+			return l, e
+		},
+		"Apart": func(g given) (any, api.Errno) {
+			return view.Apart(g.Events, g.Others), api.OK
+		},
 	}
 }
 
-// wants: which error each call must have, as G1, G2, H1, H2 and H3 name them in their order.
+// wants: which error each call must have, as G1, G2, H1 to H3, I2 and J1 name them in their order.
 func wants(g given) map[string]api.Errno {
 	p := scope.Check(g.Program)
 	beyond := func(l []int) bool {
@@ -65,13 +90,30 @@ func wants(g given) map[string]api.Errno {
 	ins := when(len(g.Ins) != len(g.Program.Ins), api.ErrForm)
 	isLong := func(l []int) bool { return len(l) >= 101 }
 	numbers := when(slices.ContainsFunc(g.Ins, beyond) || g.Fuel < 0 || g.Fuel >= 2001, api.ErrRange)
+	who := when(g.Who < 0 || g.Who >= g.Program.Actors.Many, api.ErrNone)
 	return map[string]api.Errno{
-		"Eval":  cmp.Or(formOf(g.Expr, len(g.Vars)), when(beyond(g.Vars), api.ErrRange)),
-		"Run":   cmp.Or(p, ins, when(slices.ContainsFunc(g.Ins, isLong), api.ErrMany), numbers),
-		"Of":    cmp.Or(p, levels, formOf(g.Expr, len(g.Program.Vars))),
-		"Infer": p,
-		"Fits":  cmp.Or(p, levels),
+		"Eval":   cmp.Or(formOf(g.Expr, len(g.Vars)), when(beyond(g.Vars), api.ErrRange)),
+		"Run":    cmp.Or(p, ins, when(slices.ContainsFunc(g.Ins, isLong), api.ErrMany), numbers),
+		"Of":     cmp.Or(p, levels, formOf(g.Expr, len(g.Program.Vars))),
+		"Infer":  p,
+		"Fits":   cmp.Or(p, levels),
+		"Faults": p,
+		"Fine":   p,
+		"Inputs": cmp.Or(p, who, ins),
+		"Events": cmp.Or(p, who, formOfEvents(g.Events, g.Program)),
+		"Apart":  api.OK,
 	}
+}
+
+// formOfEvents of a program.
+func formOfEvents(l []api.Event, p api.Program) api.Errno {
+	var kind, none api.Errno
+	for _, x := range l {
+		many, ok := map[int]int{1: len(p.Outs), 2: len(p.Vars), 3: len(p.Vars)}[x.Kind]
+		kind = cmp.Or(kind, when(!ok, api.ErrKind))
+		none = cmp.Or(none, when(x.Which < 0 || x.Which >= many, api.ErrNone))
+	}
+	return cmp.Or(kind, none)
 }
 
 func when(is bool, why api.Errno) api.Errno {
@@ -110,7 +152,11 @@ func parts(e api.Expr) []api.Expr {
 func makeGiven(r *rand.Rand) given {
 	p := makeProgram(r)
 	m := maker{Rand: r, p: p}
-	return given{p, makeInputs(r, p), makeFuel(r), makeLevels(r, p), m.expr(3), make([]int, len(p.Vars))}
+	return given{
+		Program: p, Ins: makeInputs(r, p), Fuel: makeFuel(r),
+		Levels: makeLevels(r, p), Expr: m.expr(3), Vars: make([]int, len(p.Vars)),
+		Who: m.actor(), Touch: r.Intn(2) == 0, Events: makeEvents(r, p), Others: makeEvents(r, p),
+	}
 }
 
 // eachPart of a value: all fields and elements.
@@ -229,7 +275,8 @@ func TestErrors(t *testing.T) {
 			seen[fmt.Sprint(name, e)]++
 		}
 	}
-	for _, s := range []string{"Eval1", "Eval2", "Eval3", "Eval5", "Eval7", "Run1", "Run2", "Run3", "Of1", "Of2", "Of3", "Of5", "Of7", "Infer1", "Infer5", "Infer7", "Fits1", "Fits5"} {
+	for _, s := range []string{"Eval1", "Eval2", "Eval3", "Eval5", "Eval7", "Run1", "Run2", "Run3", "Of1", "Of2", "Of3", "Of5", "Of7", "Infer1", "Infer5", "Infer7", "Fits1", "Fits5",
+		"Faults1", "Faults5", "Faults7", "Fine1", "Fine5", "Fine7", "Inputs1", "Inputs5", "Events5", "Events7"} {
 		if seen[s] < 20 {
 			t.Errorf("only %d of %s, in %v", seen[s], s, seen)
 		}
