@@ -9,7 +9,9 @@ import (
 	"veilwork/infer"
 	"veilwork/judge"
 	"veilwork/run"
+	"veilwork/slice"
 	"veilwork/view"
+	"veilwork/watch"
 )
 
 // greatest program: as many of all things as there may be.
@@ -96,7 +98,7 @@ func TestGreatestJudged(t *testing.T) {
 	}
 }
 
-// G2, H1 to H3, I1, I2, J1: programs one past a limit.
+// G2, H1 to H3, I1, I2, J1, K2, L1: programs one past a limit.
 func TestPastLimits(t *testing.T) {
 	for i, change := range []func(p *api.Program){
 		func(p *api.Program) { p.Actors.Grants = more(p.Actors.Grants) },
@@ -130,5 +132,66 @@ func TestPastLimits(t *testing.T) {
 				t.Errorf("P1: %s of a program past limit %d: %v (%d), want error %d", name, i, x, e, api.ErrMany)
 			}
 		}
+	}
+}
+
+// K1, L1, L2: programs at all limits.
+func TestGreatestWatched(t *testing.T) {
+	p := greatest()
+	ins := slices.Repeat([][]int{slices.Repeat([]int{api.Most}, api.MaxInput)}, api.MaxChannels)
+	x, l, e := watch.Watch(p, ins, api.MaxFuel)
+	want := guardedRun(p, ins, api.MaxFuel)
+	if e != api.OK || !alike(x, want.run) || !alike(l, want.levels()) || x.Steps != api.MaxStmts || x.End != api.EndDone {
+		t.Errorf("K1: %v and %v (%d), want %v and %v", x, l, e, want.run, want.levels())
+	}
+	last := api.MaxChannels - 1
+	v, in, s, e := slice.Needs(p, last)
+	if want := makeHanging(p).needed(last); e != api.OK || !slices.Equal(slices.Concat(v, in, s), want) || len(s) != api.MaxStmts {
+		t.Errorf("L1: %v %v %v (%d), want %v", v, in, s, e, want)
+	}
+	q, e := slice.Slice(p, last)
+	if e != api.OK || !alike(spotsOf(q, slices.Repeat([]bool{true}, len(commandsOf(q)))), spotsOf(p, s)) || !alike(bare(q), bare(p)) {
+		t.Errorf("L2: %+v (%d)", q, e)
+	}
+}
+
+// deepest program: as many of StmtIf, and of calls, in one another as there may be. Its last variable is left.
+func deepest() api.Program {
+	const many = api.MaxFuncs
+	number := api.Expr{Kind: api.ExprNumber, N: 1}
+	p := api.Program{
+		Actors: api.Actors{Many: 2},
+		Ins:    []api.Label{{Read: []api.Policy{{Owner: 0}}}},
+		Outs:   []api.Label{{}},
+		Vars:   make([]api.Var, many+2),
+	}
+	body := []api.Stmt{{Kind: api.StmtPut, Expr: number}}
+	for i := range many + 1 {
+		for range api.MaxDeep - 1 {
+			body = []api.Stmt{{Kind: api.StmtIf, Expr: number, Then: body}}
+		}
+		if i < many {
+			p.Funcs = append(p.Funcs, api.Func{Body: body, Result: number})
+			body = []api.Stmt{{Kind: api.StmtCall, Var: i, Other: i}}
+		}
+	}
+	p.Main = body
+	return p
+}
+
+// K1: the place is that of all that is gone through, however many that are.
+func TestDeepestWatched(t *testing.T) {
+	p := deepest()
+	x, _, e := watch.Watch(p, make([][]int, 1), api.MaxFuel)
+	if e != api.OK || x.End != api.EndDone || len(x.Events) != 1 || x.Steps != (api.MaxFuncs+1)*api.MaxDeep {
+		t.Errorf("K1: %v (%d)", x, e)
+	}
+	// Something is secret around all that.
+	secret := api.MaxFuncs + 1
+	p.Main[0].Expr = api.Expr{Kind: api.ExprName, N: secret}
+	p.Main = append([]api.Stmt{{Kind: api.StmtGet, Var: secret}}, p.Main...)
+	x, l, e := watch.Watch(p, [][]int{{1}}, api.MaxFuel)
+	if e != api.OK || x.End != api.EndStop || x.Stop != api.MaxDeep-1 || len(x.Events) != 0 || l[secret].Readers[1] {
+		t.Errorf("K1: %v and %v (%d)", x, l, e)
 	}
 }

@@ -14,7 +14,9 @@ import (
 	"veilwork/judge"
 	"veilwork/run"
 	"veilwork/scope"
+	"veilwork/slice"
 	"veilwork/view"
+	"veilwork/watch"
 )
 
 // given: all that a call may be handed.
@@ -29,6 +31,7 @@ type given struct {
 	Touch   bool
 	Events  []api.Event
 	Others  []api.Event
+	Channel int
 }
 
 // calls: each answers what it was told, and an error.
@@ -73,10 +76,25 @@ func calls() map[string]func(g given) (any, api.Errno) {
 		"Apart": func(g given) (any, api.Errno) {
 			return view.Apart(g.Events, g.Others), api.OK
 		},
+		"Watch": func(g given) (any, api.Errno) {
+			x, l, e := watch.Watch(g.Program, g.Ins, g.Fuel)
+			return struct {
+				Run    api.Run
+				Levels []api.Level
+			}{x, l}, e
+		},
+		"Needs": func(g given) (any, api.Errno) {
+			v, in, s, e := slice.Needs(g.Program, g.Channel)
+			return struct{ Vars, Ins, Stmts []bool }{v, in, s}, e
+		},
+		"Slice": func(g given) (any, api.Errno) {
+			p, e := slice.Slice(g.Program, g.Channel)
+			return p, e
+		},
 	}
 }
 
-// wants: which error each call must have, as G1, G2, H1 to H3, I2 and J1 name them in their order.
+// wants: which error each call must have, as G1, G2, H1 to H3, I2, J1, K2 and L1 name them in their order.
 func wants(g given) map[string]api.Errno {
 	p := scope.Check(g.Program)
 	beyond := func(l []int) bool {
@@ -91,9 +109,11 @@ func wants(g given) map[string]api.Errno {
 	isLong := func(l []int) bool { return len(l) >= 101 }
 	numbers := when(slices.ContainsFunc(g.Ins, beyond) || g.Fuel < 0 || g.Fuel >= 2001, api.ErrRange)
 	who := when(g.Who < 0 || g.Who >= g.Program.Actors.Many, api.ErrNone)
+	runs := cmp.Or(p, ins, when(slices.ContainsFunc(g.Ins, isLong), api.ErrMany), numbers)
+	channel := when(g.Channel < 0 || g.Channel >= len(g.Program.Outs), api.ErrNone)
 	return map[string]api.Errno{
 		"Eval":   cmp.Or(formOf(g.Expr, len(g.Vars)), when(beyond(g.Vars), api.ErrRange)),
-		"Run":    cmp.Or(p, ins, when(slices.ContainsFunc(g.Ins, isLong), api.ErrMany), numbers),
+		"Run":    runs,
 		"Of":     cmp.Or(p, levels, formOf(g.Expr, len(g.Program.Vars))),
 		"Infer":  p,
 		"Fits":   cmp.Or(p, levels),
@@ -102,6 +122,9 @@ func wants(g given) map[string]api.Errno {
 		"Inputs": cmp.Or(p, who, ins),
 		"Events": cmp.Or(p, who, formOfEvents(g.Events, g.Program)),
 		"Apart":  api.OK,
+		"Watch":  runs,
+		"Needs":  cmp.Or(p, channel),
+		"Slice":  cmp.Or(p, channel),
 	}
 }
 
@@ -156,6 +179,7 @@ func makeGiven(r *rand.Rand) given {
 		Program: p, Ins: makeInputs(r, p), Fuel: makeFuel(r),
 		Levels: makeLevels(r, p), Expr: m.expr(3), Vars: make([]int, len(p.Vars)),
 		Who: m.actor(), Touch: r.Intn(2) == 0, Events: makeEvents(r, p), Others: makeEvents(r, p),
+		Channel: r.Intn(max(len(p.Outs), 1)),
 	}
 }
 
@@ -276,7 +300,8 @@ func TestErrors(t *testing.T) {
 		}
 	}
 	for _, s := range []string{"Eval1", "Eval2", "Eval3", "Eval5", "Eval7", "Run1", "Run2", "Run3", "Of1", "Of2", "Of3", "Of5", "Of7", "Infer1", "Infer5", "Infer7", "Fits1", "Fits5",
-		"Faults1", "Faults5", "Faults7", "Fine1", "Fine5", "Fine7", "Inputs1", "Inputs5", "Events5", "Events7"} {
+		"Faults1", "Faults5", "Faults7", "Fine1", "Fine5", "Fine7", "Inputs1", "Inputs5", "Events5", "Events7",
+		"Watch1", "Watch2", "Watch3", "Watch5", "Watch7", "Needs1", "Needs2", "Needs5", "Needs7", "Slice1", "Slice2", "Slice5", "Slice7"} {
 		if seen[s] < 20 {
 			t.Errorf("only %d of %s, in %v", seen[s], s, seen)
 		}

@@ -33,6 +33,9 @@ func opened(r *rand.Rand, p api.Program) api.Program {
 	for m.left = 10; m.left > 0; m.left-- {
 		p.Main = append(p.Main, m.stmt(1))
 	}
+	for len(commandsOf(p)) > api.MaxStmts {
+		p.Main = p.Main[:len(p.Main)-1]
+	}
 	return p
 }
 
@@ -43,13 +46,19 @@ func mended(r *rand.Rand, p api.Program) api.Program {
 		if len(l) == 0 {
 			return p
 		}
-		m := mender{maker{Rand: r, p: p}, l, tries > 0, 0}
-		p.Funcs = slices.Clone(p.Funcs)
-		for i, f := range p.Funcs {
-			p.Funcs[i].Body = m.stmts(f.Body)
-		}
-		p.Main = m.stmts(p.Main)
+		p = without(r, p, l, tries > 0)
 	}
+}
+
+// without these faults: a program in which their commands go elsewhere, if that is tried, or are left out.
+func without(r *rand.Rand, p api.Program, l []api.Fault, tries bool) api.Program {
+	m := mender{maker{Rand: r, p: p}, l, tries, 0}
+	p.Funcs = slices.Clone(p.Funcs)
+	for i, f := range p.Funcs {
+		p.Funcs[i].Body = m.stmts(f.Body)
+	}
+	p.Main = m.stmts(p.Main)
+	return p
 }
 
 type mender struct {

@@ -1,16 +1,16 @@
-package run
+package step
 
 import "veilwork/api"
 
-// value of an expression of the right form.
-func value(e api.Expr, vars []int) int {
+// Value of an expression of the right form.
+func Value(e api.Expr, vars []int) int {
 	switch e.Kind {
 	case api.ExprNumber:
 		return e.N
 	case api.ExprName:
 		return vars[e.N]
 	}
-	return reckon(e.Kind, value(e.Args[0], vars), value(e.Args[1], vars))
+	return reckon(e.Kind, Value(e.Args[0], vars), Value(e.Args[1], vars))
 }
 
 // reckon with two numbers of a run. Those of 32 bits wrap round where a run's do.
