@@ -10,6 +10,7 @@ import (
 	"veilwork/judge"
 	"veilwork/run"
 	"veilwork/slice"
+	"veilwork/sure"
 	"veilwork/view"
 	"veilwork/watch"
 )
@@ -98,7 +99,7 @@ func TestGreatestJudged(t *testing.T) {
 	}
 }
 
-// G2, H1 to H3, I1, I2, J1, K2, L1: programs one past a limit.
+// G2, H1 to H3, I1, I2, J1, K2, L1, M1: programs one past a limit.
 func TestPastLimits(t *testing.T) {
 	for i, change := range []func(p *api.Program){
 		func(p *api.Program) { p.Actors.Grants = more(p.Actors.Grants) },
@@ -124,7 +125,7 @@ func TestPastLimits(t *testing.T) {
 		change(&p)
 		l := bottom(p)
 		for name, call := range calls() {
-			if name == "Eval" || name == "Apart" {
+			if name == "Eval" || name == "Apart" || name == "Report" {
 				continue // they take no program
 			}
 			x, e := call(given{Program: p, Ins: make([][]int, len(p.Ins)), Fuel: 1, Levels: l, Expr: longest()})
@@ -193,5 +194,27 @@ func TestDeepestWatched(t *testing.T) {
 	x, l, e := watch.Watch(p, [][]int{{1}}, api.MaxFuel)
 	if e != api.OK || x.End != api.EndStop || x.Stop != api.MaxDeep-1 || len(x.Events) != 0 || l[secret].Readers[1] {
 		t.Errorf("K1: %v and %v (%d)", x, l, e)
+	}
+}
+
+// M1: programs at all limits, and as many events as there may be.
+func TestGreatestSure(t *testing.T) {
+	p := greatest()
+	p.Main[0], p.Main[1] = p.Main[1], p.Main[0] // so what is gotten goes out
+	full := func(n int) [][]int {
+		return slices.Repeat([][]int{slices.Repeat([]int{n}, api.MaxInput)}, api.MaxChannels)
+	}
+	for who := range api.MaxActors {
+		l, m, at, e := sure.Both(p, who, false, full(api.Most), full(api.Least), api.MaxFuel)
+		if e != api.OK || at != 0 || len(l) != 1 || len(m) != 1 {
+			t.Errorf("M1: %d: %v and %v, apart at %d (%d)", who, l, m, at, e)
+		}
+	}
+	number := api.Expr{Kind: api.ExprNumber, N: 1}
+	put := api.Stmt{Kind: api.StmtPut, Other: api.MaxChannels - 1, Expr: number}
+	p.Main = []api.Stmt{{Kind: api.StmtWhile, Expr: number, Then: slices.Repeat([]api.Stmt{put}, api.MaxStmts-1)}}
+	l, m, at, e := sure.Both(p, api.MaxActors-1, false, full(1), full(2), api.MaxFuel)
+	if want := machineRun(p, full(1), api.MaxFuel).Events; e != api.OK || at != -1 || !slices.Equal(l, want) || !slices.Equal(m, want) || len(l) < 1900 {
+		t.Errorf("M1: %d and %d events, apart at %d (%d)", len(l), len(m), at, e)
 	}
 }

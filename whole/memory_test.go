@@ -15,6 +15,7 @@ import (
 	"veilwork/run"
 	"veilwork/scope"
 	"veilwork/slice"
+	"veilwork/sure"
 	"veilwork/view"
 	"veilwork/watch"
 )
@@ -32,6 +33,8 @@ type given struct {
 	Events  []api.Event
 	Others  []api.Event
 	Channel int
+	Again   [][]int
+	Text    string
 }
 
 // calls: each answers what it was told, and an error.
@@ -91,10 +94,21 @@ func calls() map[string]func(g given) (any, api.Errno) {
 			p, e := slice.Slice(g.Program, g.Channel)
 			return p, e
 		},
+		"Both": func(g given) (any, api.Errno) {
+			l, m, at, e := sure.Both(g.Program, g.Who, g.Touch, g.Ins, g.Again, g.Fuel)
+			return struct {
+				Events, Others []api.Event
+				At             int
+			}{l, m, at}, e
+		},
+		"Report": func(g given) (any, api.Errno) {
+			s, e := sure.Report(g.Text)
+			return s, e
+		},
 	}
 }
 
-// wants: which error each call must have, as G1, G2, H1 to H3, I2, J1, K2 and L1 name them in their order.
+// wants: which error each call must have, as G1, G2, H1 to H3, I2, J1, K2, L1, M1 and M2 name them in their order.
 func wants(g given) map[string]api.Errno {
 	p := scope.Check(g.Program)
 	beyond := func(l []int) bool {
@@ -107,13 +121,17 @@ func wants(g given) map[string]api.Errno {
 	}
 	ins := when(len(g.Ins) != len(g.Program.Ins), api.ErrForm)
 	isLong := func(l []int) bool { return len(l) >= 101 }
-	numbers := when(slices.ContainsFunc(g.Ins, beyond) || g.Fuel < 0 || g.Fuel >= 2001, api.ErrRange)
+	runsWith := func(ins [][]int) api.Errno {
+		return cmp.Or(p,
+			when(len(ins) != len(g.Program.Ins), api.ErrForm),
+			when(slices.ContainsFunc(ins, isLong), api.ErrMany),
+			when(slices.ContainsFunc(ins, beyond) || g.Fuel < 0 || g.Fuel >= 2001, api.ErrRange))
+	}
 	who := when(g.Who < 0 || g.Who >= g.Program.Actors.Many, api.ErrNone)
-	runs := cmp.Or(p, ins, when(slices.ContainsFunc(g.Ins, isLong), api.ErrMany), numbers)
 	channel := when(g.Channel < 0 || g.Channel >= len(g.Program.Outs), api.ErrNone)
 	return map[string]api.Errno{
 		"Eval":   cmp.Or(formOf(g.Expr, len(g.Vars)), when(beyond(g.Vars), api.ErrRange)),
-		"Run":    runs,
+		"Run":    runsWith(g.Ins),
 		"Of":     cmp.Or(p, levels, formOf(g.Expr, len(g.Program.Vars))),
 		"Infer":  p,
 		"Fits":   cmp.Or(p, levels),
@@ -122,9 +140,11 @@ func wants(g given) map[string]api.Errno {
 		"Inputs": cmp.Or(p, who, ins),
 		"Events": cmp.Or(p, who, formOfEvents(g.Events, g.Program)),
 		"Apart":  api.OK,
-		"Watch":  runs,
+		"Watch":  runsWith(g.Ins),
 		"Needs":  cmp.Or(p, channel),
 		"Slice":  cmp.Or(p, channel),
+		"Both":   cmp.Or(runsWith(g.Ins), runsWith(g.Again), who),
+		"Report": when(len(g.Text) >= 6001, api.ErrMany),
 	}
 }
 
@@ -179,7 +199,7 @@ func makeGiven(r *rand.Rand) given {
 		Program: p, Ins: makeInputs(r, p), Fuel: makeFuel(r),
 		Levels: makeLevels(r, p), Expr: m.expr(3), Vars: make([]int, len(p.Vars)),
 		Who: m.actor(), Touch: r.Intn(2) == 0, Events: makeEvents(r, p), Others: makeEvents(r, p),
-		Channel: r.Intn(max(len(p.Outs), 1)),
+		Channel: r.Intn(max(len(p.Outs), 1)), Again: makeInputs(r, p), Text: textOf(p),
 	}
 }
 
@@ -268,6 +288,8 @@ func spoil(r *rand.Rand, g *given) {
 		v.SetInt(int64(n[r.Intn(len(n))]))
 	case reflect.Bool:
 		v.SetBool(!v.Bool())
+	case reflect.String:
+		v.SetString(spoiltText(r, v.String()))
 	case reflect.Slice:
 		if v.Len() > 0 && r.Intn(2) == 0 {
 			v.SetLen(v.Len() - 1)
@@ -280,12 +302,16 @@ func spoil(r *rand.Rand, g *given) {
 
 // P1: calls answer the errors that their promises name, the first of them, and with one nothing else.
 func TestErrors(t *testing.T) {
+	t.Parallel()
 	r := rand.New(rand.NewSource(8))
 	seen := map[string]int{}
 	for range 20000 {
 		g := makeGiven(r)
 		for range r.Intn(4) {
 			spoil(r, &g)
+		}
+		if r.Intn(10) == 0 {
+			g.Text = spoiltText(r, g.Text)
 		}
 		want := wants(g)
 		for name, call := range calls() {
@@ -301,7 +327,8 @@ func TestErrors(t *testing.T) {
 	}
 	for _, s := range []string{"Eval1", "Eval2", "Eval3", "Eval5", "Eval7", "Run1", "Run2", "Run3", "Of1", "Of2", "Of3", "Of5", "Of7", "Infer1", "Infer5", "Infer7", "Fits1", "Fits5",
 		"Faults1", "Faults5", "Faults7", "Fine1", "Fine5", "Fine7", "Inputs1", "Inputs5", "Events5", "Events7",
-		"Watch1", "Watch2", "Watch3", "Watch5", "Watch7", "Needs1", "Needs2", "Needs5", "Needs7", "Slice1", "Slice2", "Slice5", "Slice7"} {
+		"Watch1", "Watch2", "Watch3", "Watch5", "Watch7", "Needs1", "Needs2", "Needs5", "Needs7", "Slice1", "Slice2", "Slice5", "Slice7",
+		"Both1", "Both2", "Both3", "Both5", "Both7", "Report2"} {
 		if seen[s] < 20 {
 			t.Errorf("only %d of %s, in %v", seen[s], s, seen)
 		}
@@ -310,6 +337,7 @@ func TestErrors(t *testing.T) {
 
 // P2: what comes in is only read, the room behind lists too; an answer is new memory, and no two lists of it share any.
 func TestMemory(t *testing.T) {
+	t.Parallel()
 	r := rand.New(rand.NewSource(9))
 	for range 1000 {
 		g := makeGiven(r)

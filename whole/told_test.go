@@ -111,6 +111,7 @@ func both(g given, others [][]int) (l, m []api.Event, done bool) {
 
 // I1, J1: of a program without faults nobody learns more than is revealed, and nobody has a say in what it can't touch but by what is trusted.
 func TestNothingIsTold(t *testing.T) {
+	t.Parallel()
 	r := rand.New(rand.NewSource(15))
 	seen := map[string]int{}
 	for range 8000 {

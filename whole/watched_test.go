@@ -265,9 +265,10 @@ func revealing(r *rand.Rand, p api.Program) api.Program {
 
 // K1: watched runs are as those that are guarded, their levels, too.
 func TestWatched(t *testing.T) {
+	t.Parallel()
 	r := rand.New(rand.NewSource(16))
 	seen := map[string]int{}
-	for g, want := range eachWatched(r, 3000) {
+	for g, want := range eachWatched(r, 6000) {
 		x, l, e := watch.Watch(g.Program, g.Ins, g.Fuel)
 		if e != api.OK || !alike(x, want.run) || !alike(l, want.levels()) {
 			t.Fatalf("K1: %+v: %v and %v (%d), want %v and %v", g, x, l, e, want.run, want.levels())
@@ -330,6 +331,7 @@ func commandsOf(p api.Program) []api.Stmt {
 
 // K2: watched, whatever the program is, nobody learns more than is revealed.
 func TestNothingIsToldWatched(t *testing.T) {
+	t.Parallel()
 	r := rand.New(rand.NewSource(18))
 	seen := map[string]int{}
 	for g := range eachWatched(r, 3000) {
