@@ -10,8 +10,16 @@ import (
 	"veilwork/view"
 )
 
-// makeFine: a program without faults that grows command by command, so that much goes on in it. At first it gets something from each channel, at last once more, and all that is Known goes out.
+// makeFine: a program without faults.
 func makeFine(r *rand.Rand) api.Program {
+	return makeGrown(r, func(p api.Program) bool {
+		fine, _ := judge.Fine(p)
+		return fine
+	})
+}
+
+// makeGrown: a program that grows command by command, as long as something holds of it, so that much goes on in it. At first it gets something from each of three channels, at last once more, and all that is Known goes out.
+func makeGrown(r *rand.Rand, holds func(p api.Program) bool) api.Program {
 	m := maker{Rand: r}
 	m.p.Actors.Many = 2 + r.Intn(3)
 	for range r.Intn(2) {
@@ -39,8 +47,7 @@ func makeFine(r *rand.Rand) api.Program {
 	m.p.Main = gets
 	for range 30 {
 		q := m.grown()
-		fine, _ := judge.Fine(q)
-		if fine && len(commandsOf(q))+len(gets)+len(puts) <= api.MaxStmts {
+		if holds(q) && len(commandsOf(q))+len(gets)+len(puts) <= api.MaxStmts {
 			m.p = q
 		}
 	}

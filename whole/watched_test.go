@@ -359,3 +359,38 @@ func TestNothingIsToldWatched(t *testing.T) {
 		t.Errorf("too little was seen: %v", seen)
 	}
 }
+
+// K2: likewise of programs that grow as long as they are not stopped, with one of the inputs, though hardly any is fine.
+func TestNothingIsToldGrown(t *testing.T) {
+	t.Parallel()
+	r := rand.New(rand.NewSource(27))
+	seen := map[string]int{}
+	for range 400 {
+		g := given{Ins: makeFew(r, api.Program{Ins: make([]api.Label, 3)}), Fuel: 200}
+		g.Program = makeGrown(r, func(p api.Program) bool {
+			x, _, e := watch.Watch(p, g.Ins, g.Fuel)
+			return e == api.OK && x.End == api.EndDone
+		})
+		for i := range 4 * g.Program.Actors.Many {
+			g.Who = i / 4
+			others := makeFew(r, g.Program)
+			keepSame(g, others)
+			x, _, e := watch.Watch(g.Program, g.Ins, g.Fuel)
+			y, _, f := watch.Watch(g.Program, others, g.Fuel)
+			l, _ := view.Events(g.Program, g.Who, false, x.Events)
+			m, _ := view.Events(g.Program, g.Who, false, y.Events)
+			v := verdict(l, m, api.EventReveal)
+			if e != api.OK || f != api.OK || v == "leak" {
+				t.Fatalf("K2: %+v and %v: %v and %v (%d, %d)", g, others, l, m, e, f)
+			}
+			if fine, _ := judge.Fine(g.Program); !fine && !alike(x, y) {
+				seen[v]++
+			}
+		}
+	}
+	for _, s := range []string{"same", "told", "more"} {
+		if seen[s] < 25 {
+			t.Errorf("too few of %s: %v", s, seen)
+		}
+	}
+}
